@@ -1,0 +1,1 @@
+"""Fivetrees: programs that write trees as text, decided for every tree."""
