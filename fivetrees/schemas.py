@@ -79,6 +79,17 @@ def _parts(text):
     return tuple(kinds), tuple(constructors)
 
 
+def schema_of_text(text):
+    """The schema with this text; what Schema.read does, for other modules."""
+    if not isinstance(text, str):
+        raise InvalidText(text)
+    kinds, constructors = _parts(text)
+    try:
+        return Schema(kinds, constructors)
+    except (InvalidKinds, InvalidConstructors):
+        raise InvalidText(text) from None
+
+
 class Schema:
     """Kinds, the first of them the root kind, and the constructors that make trees of them."""
 
@@ -93,13 +104,7 @@ class Schema:
     @staticmethod
     def read(text):
         """The schema with this text."""
-        if not isinstance(text, str):
-            raise InvalidText(text)
-        kinds, constructors = _parts(text)
-        try:
-            return Schema(kinds, constructors)
-        except (InvalidKinds, InvalidConstructors):
-            raise InvalidText(text) from None
+        return schema_of_text(text)
 
     @property
     def kinds(self):

@@ -59,3 +59,18 @@ def no_names():
         "abcdefghi", "a23456789", "a" * 5000, "\u00e9", "a\u00e9", "a\u0301", "\u0430", "a\u0430", "a\u0661", "\uff41",
         "a\uff11", "a\u00b2", "\ud800", "a\x00", "a\t", "a\r", "a`", "a{", "`a", "{a", "a/", "a:", "a@", "a[",
     ]
+
+
+def no_numbers():
+    """Values that are no integers."""
+    return [value for value in no_strings() if isinstance(value, bool) or not isinstance(value, int)] + [
+        "", "0", "1", (0,), (1,), [0], {0: 1}, b"1",
+    ]
+
+
+def no_signs():
+    """Values that are no strings of signs from the space to the tilde, or newlines."""
+    return no_strings() + [
+        "\t", "\r", "\x00", "\x1f", "\x7f", "\x80", "\u00a0", "\u00e9", "\u2028", "\ud800", "a\t", "\ra", "a\x7fb",
+        "\U0001d41a",
+    ]

@@ -1,0 +1,66 @@
+"""Writing trees by their rows, so that what is shared is looked at once."""
+
+
+def rules_for(rules, mode, name):
+    """The pairs (looks, pieces) of the rules of this mode and constructor, in their order."""
+    return [(rule[2], rule[3]) for rule in rules if rule[0] == mode and rule[1] == name]
+
+
+def _fits(looks, tops):
+    return all([look is None or top in look for look, top in zip(looks, tops)])
+
+
+def first_fitting(pairs, tops):
+    """The pieces of the first rule that fits a tree whose fields have these tops."""
+    for looks, pieces in pairs:
+        if _fits(looks, tops):
+            return pieces
+    return None
+
+
+def _parts_of_row(rules, rows, number, mode):
+    """What is written for the row: strings, and for fields pairs (row, mode)."""
+    name, numbers = rows[number]
+    tops = [rows[at][0] for at in numbers]
+    pieces = first_fitting(rules_for(rules, mode, name), tops)
+    return tuple([piece if isinstance(piece, str) else (numbers[piece[0]], piece[1]) for piece in pieces])
+
+
+def parts_of(rules, rows, mode):
+    """For each pair (row, mode) that is written, what is written for it; those of fields come first."""
+    wanted = [[] for row in rows]
+    wanted[-1].append(mode)
+    found = {}
+    for number in reversed(range(len(rows))):
+        for its_mode in list(wanted[number]):
+            parts = _parts_of_row(rules, rows, number, its_mode)
+            found[(number, its_mode)] = parts
+            for part in parts:
+                if not isinstance(part, str) and part[1] not in wanted[part[0]]:
+                    wanted[part[0]].append(part[1])
+    return {pair: found[pair] for pair in reversed(list(found))}
+
+
+def lengths_of(parts):
+    """For each pair (row, mode) the length of its text."""
+    found = {}
+    for pair, its_parts in parts.items():
+        found[pair] = sum([len(part) if isinstance(part, str) else found[part] for part in its_parts])
+    return found
+
+
+def texts_of(parts, lengths, most):
+    """The texts that have at most so many signs, by their pairs (row, mode)."""
+    found = {}
+    for pair, its_parts in parts.items():
+        if lengths[pair] <= most:
+            found[pair] = "".join([part if isinstance(part, str) else found[part] for part in its_parts])
+    return found
+
+
+def text_of(rules, rows, mode):
+    """The text of the rows in the mode, whatever its length."""
+    parts = parts_of(rules, rows, mode)
+    lengths = lengths_of(parts)
+    top = (len(rows) - 1, mode)
+    return texts_of(parts, lengths, lengths[top])[top]

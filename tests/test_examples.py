@@ -1,0 +1,99 @@
+import doctest
+import unittest
+
+TREES = """
+>>> from fivetrees.samples import sums_schema
+>>> from fivetrees.trees import Tree, compare, trees
+>>> sums = sums_schema()
+>>> one = Tree(sums, "one")
+>>> three = Tree(sums, "mul", Tree(sums, "add", one, one), one)
+>>> [str(three), three.size, three.depth, str(three[(0,)]), compare(one, three), str(three.put((0, 1), three[(0,)])), \
+repr(three), list(map(str, trees(sums, "num", most=3)))]
+['one; add 0 0; mul 1 0', 5, 3, 'one; add 0 0', -1, 'one; add 0 0; add 0 1; mul 2 0', 'Tree(mul, size 5)', \
+['one', 'one; add 0 0', 'one; mul 0 0']]
+"""
+
+WRITERS = """
+>>> from fivetrees.samples import full_writer, looking_writer, moding_writer, sums_schema
+>>> from fivetrees.trees import Tree
+>>> tree = Tree.read(sums_schema(), "one; add 0 0; mul 1 0")
+>>> [looking_writer()(tree), moding_writer()(tree), full_writer()(tree), moding_writer().written(tree[(0,)], "part"), \
+("=" + full_writer() + ";")(tree[(1,)]), full_writer().spelled((("(", "["), (")", "]")))(tree), repr(moding_writer())]
+['(1+1)*1', '(1+1)*1', '((1+1)*1)', '(1+1)', '=1;', '[[1+1]*1]', 'Writer(2 modes, 6 rules)']
+"""
+
+LONGTEXTS = """
+>>> from fivetrees.longtexts import LongText
+>>> from fivetrees.samples import full_writer, sums_schema
+>>> from fivetrees.trees import Tree
+>>> tree = Tree(sums_schema(), "one")
+>>> tree = Tree(sums_schema(), "add", tree, tree)
+>>> tree = Tree(sums_schema(), "mul", tree, tree)
+>>> text = LongText(full_writer(), tree)
+>>> [text.length, text[0], text[-3], text.piece(1, 5), text.count("(1")]
+[13, '(', '1', '(1+1)', 7]
+"""
+
+KEEPING = """
+>>> from fivetrees.keeping import Keeping
+>>> from fivetrees.samples import looking_writer, moding_writer, sums_schema
+>>> from fivetrees.trees import Tree
+>>> keeping = Keeping(looking_writer(), moding_writer())
+>>> [keeping.base, len(keeping.states), keeping.row(Tree(sums_schema(), "one"), ("one", "top", "sum")), \
+list(map(str, keeping.kept(("one", "top", "part"))))]
+[6, 6, (1, 6, 5, 6, 5), ['one']]
+"""
+
+DECIDING = """
+>>> from fivetrees.deciding import alike, constant_text, enough_trees, first_unequal, first_unlike
+>>> from fivetrees.samples import full_writer, looking_writer, moding_writer
+>>> looking, moding, full = looking_writer(), moding_writer(), full_writer()
+>>> [alike(looking, moding), first_unlike(looking, moding), str(first_unlike(looking, full)), \
+str(first_unequal(full, moding)), constant_text(full), len(enough_trees(looking, moding)) <= 15]
+[True, None, 'one; add 0 0', 'one; add 0 0', None, True]
+"""
+
+MODES = """
+>>> from fivetrees.modes import lean, mode_classes
+>>> from fivetrees.samples import full_writer, moding_writer, sums_schema
+>>> from fivetrees.writers import Writer
+>>> rules = (("a", "one", (), ("1",)), ("b", "one", (), ("1",)), \
+("a", "add", (None, None), ((0, "b"), "+", (1, "b"))), ("b", "add", (None, None), ((0, "a"), "+", (1, "a"))), \
+("a", "mul", (None, None), ("*",)), ("b", "mul", (None, None), ("*",)))
+>>> twice = Writer(sums_schema(), rules, "b")
+>>> [mode_classes(twice, "num"), mode_classes(moding_writer(), "num"), lean(twice).rules, lean(twice).start, \
+lean(full_writer()) == full_writer()]
+[(('a', 'b'),), (('sum',), ('part',)), (('a', 'one', (), ('1',)), \
+('a', 'add', (None, None), ((0, 'a'), '+', (1, 'a'))), ('a', 'mul', (None, None), ('*',))), 'a', True]
+"""
+
+
+class Examples(unittest.TestCase):
+    def check(self, text):
+        examples = doctest.DocTestParser().get_doctest(text, {}, "examples", None, 0)
+        told = []
+        result = doctest.DocTestRunner(verbose=False).run(examples, out=told.append)
+        self.assertGreater(result.attempted, 3)
+        self.assertEqual(result.failed, 0, "".join(told))
+
+    def test_trees(self):
+        self.check(TREES)
+
+    def test_writers(self):
+        self.check(WRITERS)
+
+    def test_longtexts(self):
+        self.check(LONGTEXTS)
+
+    def test_keeping(self):
+        self.check(KEEPING)
+
+    def test_deciding(self):
+        self.check(DECIDING)
+
+    def test_modes(self):
+        self.check(MODES)
+
+
+if __name__ == "__main__":
+    unittest.main()
