@@ -1,5 +1,6 @@
 """The same things done plainly: trees are nested tuples (constructor, fields), and nothing is shared."""
 
+import itertools
 from fractions import Fraction
 
 from fivetrees.trees import Tree
@@ -176,3 +177,20 @@ def kept(writer, other, starts, most):
 
 def root_states(writer, other):
     return [(name, writer.start, other.start) for name in writer.schema.of_kind(writer.schema.root)]
+
+
+def joins(writer, other, starts, most):
+    """How many joins there are, and the size of the greatest kept tree, by a look at all trees up to a size."""
+    schema = writer.schema
+    found = kept(writer, other, starts, most)
+    many = 0
+    for state in found:
+        fields = schema.constructor(state[0])[2]
+        for tops in itertools.product(*[schema.of_kind(kind) for kind in fields]):
+            tree = (state[0], tuple((top, ()) for top in tops))
+            ones, others = field_modes(writer.rules, tree, state[1]), field_modes(other.rules, tree, state[2])
+            product = 1
+            for below in zip(tops, ones, others):
+                product *= len(found[below])
+            many += product
+    return many, max(size(tree) for trees in found.values() for tree in trees)
