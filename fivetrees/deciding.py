@@ -8,7 +8,7 @@ from fivetrees.errors import TooLong
 from fivetrees.limits import MOST_WRITTEN
 from fivetrees.searching import kept_trees
 from fivetrees.states import start_states
-from fivetrees.writers import check_writer, check_writers
+from fivetrees.writers import check_writers
 from fivetrees.writing import text_of
 
 
@@ -47,7 +47,6 @@ def first_unequal(writer, other):
 
 def _told_trees(writer):
     """The kept trees of the writer beside itself, each with its text."""
-    check_writer(writer)
     found = [(tree, _text(writer, tree)) for tree in enough_trees(writer, writer)]
     # The first tree of all is kept, and comes first.
     length = len(found[0][1])

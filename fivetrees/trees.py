@@ -217,12 +217,6 @@ def _first_different(fields, others):
     return None
 
 
-def _sign(one, other):
-    if one < other:
-        return -1
-    return 1 if one > other else 0
-
-
 def compare(one, other):
     """-1 if the first tree comes before the second one, 0 if they are equal, 1 if behind."""
     check_tree(one)
@@ -233,9 +227,9 @@ def compare(one, other):
     # Only the first fields that differ have to be looked into, so this is one way down.
     while one != other:
         if one.size != other.size:
-            return _sign(one.size, other.size)
+            return -1 if one.size < other.size else 1
         if one.name != other.name:
-            return _sign(schema.place(one.name), schema.place(other.name))
+            return -1 if schema.place(one.name) < schema.place(other.name) else 1
         one, other = _first_different(one.fields, other.fields)
     return 0
 

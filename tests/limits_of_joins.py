@@ -61,6 +61,27 @@ def one_more_for_modes():
     return Writer(schema, rules, "a")
 
 
+def two_thousand_empty():
+    """Two writers with 2000 joins, of which each one is another choice of tops in a state: all texts are empty.
+
+    The states of the trees below the begin have fifteen pairs of modes; each has 133 choices.
+    """
+    schema = Schema.read(
+        "kind a\nkind b\nmake begin a b\nmake x b\nmake y b\nmake z b\nmake up b b\nmake three b b b b"
+    )
+
+    def writer(**modes):
+        rules = [("c", "begin", (None,), ((0, "c"),))]
+        for mode, (three, up) in modes.items():
+            rules += [(mode, name, (), ()) for name in "xyz"]
+            rules.append((mode, "up", (None,), ((0, up),)))
+            rules.append((mode, "three", (None,) * 3, tuple((k, one) for k, one in enumerate(three) if one)))
+        return Writer(schema, tuple(rules), "c")
+
+    one = writer(a=([None, None, None], "a"), b=(["c", "c", None], "c"), c=(["b", "a", "a"], "c"))
+    return one, writer(a=(["b", "b", "c"], "c"), b=([None, "b", "a"], "c"), c=(["c", None, "b"], "a"))
+
+
 def great_first_tree(signs, before=""):
     """A writer whose first tree has four rows, 40 constructors, and a text of so many signs (without before)."""
     schema = Schema(

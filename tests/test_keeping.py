@@ -12,7 +12,9 @@ from fivetrees.trees import Tree, compare, trees
 from fivetrees.writers import Writer
 from tests import chance, plain
 from tests.examples import BOUGHT, LEAST, SUMS
-from tests.limits_of_joins import great_first_tree, one_more, one_more_beside_itself, two_thousand
+from tests.limits_of_joins import (
+    great_first_tree, one_more, one_more_beside_itself, two_thousand, two_thousand_empty,
+)
 from tests.test_tree_paths import great
 from tests.test_trees import CHAIN, chain
 from tests.values import no_strings
@@ -314,6 +316,18 @@ class Limits(unittest.TestCase):
         self.assertEqual(plain.joins(writer, other, plain.root_states(writer, other), 5), (2000, 5))
         keeping = Keeping(writer, other)
         self.assertEqual(max(tree.size for state in keeping.states for tree in keeping.kept(state)), 5)
+
+    def test_two_thousand_joins_with_empty_texts(self):
+        writer, other = two_thousand_empty()
+        keeping = Keeping(writer, other)
+        self.assertEqual((len(keeping), len(keeping.states)), (1 + 15 * 5, 1 + 15 * 5))
+        self.assertEqual(plain.joins(writer, other, plain.root_states(writer, other), 5), (2000, 4))
+        # With one constructor more for a field there are more.
+        schema = Schema(writer.schema.kinds, (("begin", "a", ("b", "b")),) + writer.schema.constructors[1:])
+        one, more = (
+            Writer(schema, (("c", "begin", (None, None), ((0, "c"),)),) + each.rules[1:], "c") for each in (writer, other)
+        )
+        self.refuse(one, more)
 
     def test_one_join_more(self):
         writer, other = one_more()

@@ -254,7 +254,9 @@ class Using(unittest.TestCase):
 
     def test_both_the_same(self):
         for name in ("one", "add", "mul"):
-            self.assertTrue(moding_writer().using(name, name) == moding_writer())
+            writer = moding_writer()
+            self.assertIs(writer.using(name, name), writer)
+            self.assertTrue(writer == moding_writer())
 
     def test_no_constructors(self):
         for value in no_names() + ["num", "on", ("one",)]:
