@@ -321,7 +321,7 @@ class Limits(unittest.TestCase):
         writer, other = two_thousand_empty()
         keeping = Keeping(writer, other)
         self.assertEqual((len(keeping), len(keeping.states)), (1 + 15 * 5, 1 + 15 * 5))
-        self.assertEqual(plain.joins(writer, other, plain.root_states(writer, other), 5), (2000, 4))
+        self.assertEqual(plain.joins(writer, other, plain.root_states(writer, other), 7), (2000, 4))
         # With one constructor more for a field there are more.
         schema = Schema(writer.schema.kinds, (("begin", "a", ("b", "b")),) + writer.schema.constructors[1:])
         one, more = (
