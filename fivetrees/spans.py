@@ -9,7 +9,7 @@ def _plain(rows):
     for row in rows:
         for number in row:
             common = gcd(common, number)
-    return [[number // common for number in row] for row in rows]
+    return [[entry // common for entry in line] for line in rows]
 
 
 class Span:
