@@ -21,7 +21,8 @@ class LongText:
         lengths = lengths_of(parts)
         top = (len(tree.rows) - 1, writer.start)
         self._writer = writer
-        self._tree = tree
+        # Errors have an attribute of this name, so here it is no property either.
+        self.tree = tree
         self._parts = parts
         self._lengths = lengths
         # Short texts are kept whole: through long ones alone, no part has to be looked for far down.
@@ -33,11 +34,6 @@ class LongText:
     def writer(self):
         """The writer."""
         return self._writer
-
-    @property
-    def tree(self):
-        """The tree."""
-        return self._tree
 
     @property
     def length(self):

@@ -100,6 +100,7 @@ class Schema:
         self._kinds = kinds
         self._constructors = constructors
         self._names = tuple([constructor[0] for constructor in constructors])
+        self._places = {name: place for place, name in enumerate(self._names)}
 
     @staticmethod
     def read(text):
@@ -140,7 +141,7 @@ class Schema:
         """The place of the constructor with this name among the constructors."""
         if not _is_one_of(name, self._names):
             raise UnknownConstructor(name)
-        return self._names.index(name)
+        return self._places[name]
 
     def __str__(self):
         kinds = [f"kind {kind}" for kind in self._kinds]

@@ -106,8 +106,9 @@ class Tree:
         _check_fields(schema, kinds, fields)
         self._rows = _rows_below(own_name, fields)
         self._schema = schema
-        self._name = own_name
-        self._kind = kind
+        # Errors have attributes of these two names, so here they are no properties either.
+        self.name = own_name
+        self.kind = kind
         self._fields = fields
         self._size = 1 + sum([field.size for field in fields])
         self._depth = 1 + max([field.depth for field in fields], default=0)
@@ -148,16 +149,6 @@ class Tree:
     def rows(self):
         """The rows (constructor, numbers); the last one is the whole tree."""
         return self._rows
-
-    @property
-    def name(self):
-        """The name of the top."""
-        return self._name
-
-    @property
-    def kind(self):
-        """The kind."""
-        return self._kind
 
     @property
     def fields(self):
@@ -204,7 +195,7 @@ class Tree:
         return len(self._rows)
 
     def __repr__(self):
-        return f"Tree({self._name}, size {self._size})"
+        return f"Tree({self.name}, size {self._size})"
 
     def __eq__(self, other):
         return isinstance(other, Tree) and self._rows == other._rows and self._schema == other._schema

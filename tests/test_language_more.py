@@ -35,6 +35,12 @@ def methods(node):
     return [one for one in node.body if isinstance(one, ast.FunctionDef)]
 
 
+def stored_in(node):
+    """The attributes that a class assigns."""
+    attributes = [one for one in ast.walk(node) if isinstance(one, ast.Attribute)]
+    return {one.attr for one in attributes if isinstance(one.ctx, ast.Store)}
+
+
 def generators():
     """The functions that yield, nested ones apart: there are none."""
     return [node for _, node in walk(ast.FunctionDef) if any(isinstance(one, (ast.Yield, ast.YieldFrom)) for one in ast.walk(node))]
@@ -59,11 +65,8 @@ class Classes(unittest.TestCase):
         for node in classes():
             for one in methods(node):
                 (properties if is_property(one) else plain).add(one.name)
-            if node.bases:
-                continue
-            for one in ast.walk(node):
-                if isinstance(one, ast.Attribute) and isinstance(one.ctx, ast.Store):
-                    stored.add(one.attr)
+            stored |= stored_in(node)
+        # A property without a setter is nowhere an attribute that is assigned, not even in an error.
         self.assertEqual(stored & (plain | properties), set())
         self.assertEqual(plain & properties, set())
         self.assertEqual((stored | plain | properties) & {"keys", "items", "values", "mro"}, set())

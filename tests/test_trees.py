@@ -94,15 +94,17 @@ class Made(unittest.TestCase):
             self.assertEqual((type(row), type(row[0]), type(row[1])), (tuple, str, tuple))
 
     def test_the_methods_stand_in_the_class(self):
-        listed = ["__init__", "of_rows", "read", "schema", "rows", "name", "kind", "fields", "size", "depth"]
+        listed = ["__init__", "of_rows", "read", "schema", "rows", "fields", "size", "depth"]
         for name in listed + ["__getitem__", "put", "__str__", "__len__", "__eq__", "__repr__"]:
             self.assertIn(name, vars(Tree))
+        for name in ("name", "kind"):
+            self.assertIn(name, vars(self.one))
         self.assertIsInstance(vars(Tree)["of_rows"], classmethod)
         self.assertIsInstance(vars(Tree)["read"], classmethod)
         self.assertEqual(Tree.__module__, "fivetrees.trees")
 
     def test_properties_are_not_assigned(self):
-        for name in ("schema", "rows", "name", "kind", "fields", "size", "depth"):
+        for name in ("schema", "rows", "fields", "size", "depth"):
             with self.assertRaises(AttributeError):
                 setattr(self.one, name, ())
         with self.assertRaises(TypeError):
