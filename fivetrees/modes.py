@@ -1,8 +1,9 @@
 """Modes that are one, and writers without what they do not need."""
 
-from fivetrees.rules import is_without_looks, needed_pairs
+from fivetrees.rules import needed_pairs
 from fivetrees.searching import kept_trees
 from fivetrees.writers import Writer, check_writer
+from fivetrees.writing import is_general
 
 
 def _pairs_of(modes):
@@ -67,7 +68,7 @@ def _reached(rules):
     for rule in rules:
         if (rule[0], rule[1]) not in general:
             found.append(rule)
-        if is_without_looks(rule):
+        if is_general(rule[2]):
             general.append((rule[0], rule[1]))
     return found
 

@@ -4,6 +4,7 @@ from fivetrees.checks import are_signs, is_number
 from fivetrees.errors import InvalidRules, MissingRule
 from fivetrees.limits import MOST_MODES, MOST_PIECES, MOST_RULES, MOST_SIGNS
 from fivetrees.schemas import is_name
+from fivetrees.writing import is_general
 
 
 def is_string_within(value, least, most):
@@ -83,11 +84,6 @@ def check_rules(schema, rules):
             raise InvalidRules(index)
 
 
-def is_without_looks(rule):
-    """Whether the rule fits each tree with its constructor on top."""
-    return all([look is None for look in rule[2]])
-
-
 def _pairs_below(schema, rules, mode, kind):
     """The pairs (mode, kind) in which the rules of this mode write fields of trees of this kind."""
     found = []
@@ -114,7 +110,7 @@ def needed_pairs(schema, rules, start):
 
 def check_needed(schema, rules, needed):
     """Refuse rules that lack one without looks for a needed mode and a constructor."""
-    general = [(rule[0], rule[1]) for rule in rules if is_without_looks(rule)]
+    general = [(rule[0], rule[1]) for rule in rules if is_general(rule[2])]
     for mode in modes_of(rules):
         for constructor in schema.constructors:
             name, kind = constructor[0], constructor[1]

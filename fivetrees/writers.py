@@ -50,6 +50,12 @@ def _text_within(writer, rows, mode, around):
     return texts_of(parts, lengths, lengths[top])[top]
 
 
+def whole_text(writer, tree):
+    """The text that a writer writes for a tree of the root kind."""
+    around = len(writer.before) + len(writer.after)
+    return writer.before + _text_within(writer, tree.rows, writer.start, around) + writer.after
+
+
 def _check_added(other, string):
     """Refuse what cannot be added to the string before or after."""
     if not is_string_within(other, 0, MOST_SIGNS - len(string)):
@@ -172,8 +178,7 @@ class Writer:
 
     def __call__(self, tree):
         check_root_tree(self, tree)
-        around = len(self._before) + len(self._after)
-        return self._before + _text_within(self, tree.rows, self._start, around) + self._after
+        return whole_text(self, tree)
 
     def written(self, tree, mode):
         """The text of a tree of any kind in a mode that is needed with its kind."""

@@ -6,6 +6,11 @@ def rules_for(rules, mode, name):
     return [(rule[2], rule[3]) for rule in rules if rule[0] == mode and rule[1] == name]
 
 
+def is_general(looks):
+    """Whether a rule with these looks fits each tree with its constructor on top."""
+    return all([look is None for look in looks])
+
+
 def _fits(looks, tops):
     return all([look is None or top in look for look, top in zip(looks, tops)])
 

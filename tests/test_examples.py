@@ -67,6 +67,37 @@ lean(full_writer()) == full_writer()]
 ('a', 'add', (None, None), ((0, 'a'), '+', (1, 'a'))), ('a', 'mul', (None, None), ('*',))), 'a', True]
 """
 
+PATTERNS = """
+>>> from fivetrees.patterns import Pattern, always, first_breaking, first_keeping
+>>> from fivetrees.samples import full_writer, moding_writer
+>>> plain, closed = Pattern.without("+*"), Pattern(2, (1,), (0, ")", 1), (1, None, 0))
+>>> [plain.keeps("1+1*1"), plain.keeps("1+*1"), always(moding_writer(), plain), \
+str(first_breaking(full_writer(), Pattern.without("(("))), str(first_keeping(moding_writer(), closed)), closed.face("1)")]
+[True, False, True, 'one; add 0 0; add 1 0', 'one; add 0 0; mul 0 1', (1, 1)]
+"""
+
+READINGS = """
+>>> from fivetrees.readings import first_reading, second_reading
+>>> from fivetrees.samples import full_writer, looking_writer
+>>> writer = looking_writer()
+>>> [str(first_reading(writer, "1+1+1")), str(second_reading(writer, "1+1+1")), \
+second_reading(full_writer(), "((1+1)*1)"), first_reading(full_writer(), "1+1")]
+['one; add 0 0; add 0 1', 'one; add 0 0; add 1 0', None, None]
+"""
+
+SHEETS = """
+>>> from fivetrees.samples import moding_writer, sums_schema
+>>> from fivetrees.sheets import Sheet, set_tree
+>>> from fivetrees.trees import Tree
+>>> sums = sums_schema()
+>>> sheet = Sheet(moding_writer(), Tree.read(sums, "one; mul 0 0; mul 1 0"))
+>>> patch = set_tree(sheet, (0,), Tree.read(sums, "one; add 0 0"))
+>>> shown = [patch, sheet.text, str(sheet[(0,)]), len(sheet)]
+>>> sheet.undo()
+>>> shown + [sheet.text, len(sheet)]
+[(0, 3, '(1+1)'), '(1+1)*1', 'one; add 0 0', 1, '1*1*1', 0]
+"""
+
 
 class Examples(unittest.TestCase):
     def check(self, text):
@@ -93,6 +124,15 @@ class Examples(unittest.TestCase):
 
     def test_modes(self):
         self.check(MODES)
+
+    def test_patterns(self):
+        self.check(PATTERNS)
+
+    def test_readings(self):
+        self.check(READINGS)
+
+    def test_sheets(self):
+        self.check(SHEETS)
 
 
 if __name__ == "__main__":

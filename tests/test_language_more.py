@@ -12,7 +12,8 @@ METHODS = set(
 )
 PYTHON_ERRORS = {"ValueError", "LookupError", "ArithmeticError", "TypeError"}
 SPECIAL = set(
-    "__init__ __eq__ __repr__ __str__ __len__ __call__ __iter__ __contains__ __getitem__ __add__ __radd__".split()
+    "__init__ __eq__ __repr__ __str__ __len__ __call__ __iter__ __contains__ __getitem__ __setitem__ __add__ __radd__"
+    " __invert__".split()
 )
 TAKERS = ("sorted", "min", "max", "any", "all", "sum", "list", "tuple")
 # Parsed once, so that a node met again is the same object.
@@ -124,7 +125,7 @@ class Values(unittest.TestCase):
         for name, node in walk(ast.Call):
             for k, one in enumerate(node.args):
                 if isinstance(one, ast.Starred):
-                    self.assertIsInstance(one.value, ast.Name, name)
+                    self.assertIsInstance(one.value, (ast.Name, ast.Attribute), name)
                     self.assertEqual(k, len(node.args) - 1, name)
                     self.assertEqual(node.keywords, [], name)
 
