@@ -10,19 +10,16 @@ A measure tells which values the text of a part can have, and how they go togeth
 
 from heapq import heappop, heappush
 
-from fivetrees.errors import TooManyRows
 from fivetrees.grammars import Grammar
-from fivetrees.limits import MOST_ROWS
-from fivetrees.trees import Tree
+from fivetrees.ranking import Ranking
 
 
 class Finder:
     """Finds for each pair (constructor, mode) and each value the first trees, as many as are asked for.
 
-    Trees are told by ranks, in their order; a tree that is found has a rank, a place among the
-    constructors, and the ranks of its fields. The search goes by size, as trees are ordered. What is
-    found on the way: dots, which are nodes with a value and the ranks of the fields that were passed
-    (-1 for the others), and marks, which are wants with a value and a rank.
+    Trees are told by ranks. The search goes by size, as trees are ordered. What is found on the way:
+    dots, which are nodes with a value and the ranks of the fields that were passed (-1 for the
+    others), and marks, which are wants with a value and a rank.
     """
 
     def __init__(self, writer, measure, most):
@@ -30,9 +27,7 @@ class Finder:
         self.grammar = Grammar(writer)
         self.measure = measure
         self.most = most
-        self.told = []
-        self.sizes = []
-        self.ranks = {}
+        self.ranking = Ranking(writer.schema)
         self.found_pairs = {}
         self.found_marks = {}
         self._dot_counts = {}
@@ -70,7 +65,7 @@ class Finder:
         for ranks, node, value in sorted(dots):
             self._take_dot(node, value, size, ranks)
         for place, ranks, pair, value in sorted(grown):
-            self._take_tree(size, (place, ranks), pair, value)
+            self._take_tree(size, place, ranks, pair, value)
         return True
 
     def _layer(self, size):
@@ -97,16 +92,12 @@ class Finder:
             for mark in self._marks[want].get(end, []):
                 self._join(dot, mark, field, target, string)
 
-    def _take_tree(self, size, tree, pair, value):
-        ranks = self.found_pairs.setdefault((pair, value), [])
-        if len(ranks) == self.most:
+    def _take_tree(self, size, place, ranks, pair, value):
+        known = self.found_pairs.setdefault((pair, value), [])
+        if len(known) == self.most:
             return
-        if tree not in self.ranks:
-            self.ranks[tree] = len(self.told)
-            self.told.append(tree)
-            self.sizes.append(size)
-        rank = self.ranks[tree]
-        ranks.append(rank)
+        rank = self.ranking.rank(size, place, ranks)
+        known.append(rank)
         for want in self._askers[pair]:
             self._take_mark(want, value, rank)
 
@@ -134,21 +125,5 @@ class Finder:
             value = self.measure.longer(value, string)
         if value is None or self._dot_counts.get((target, value), 0) == self.most:
             return
-        size = size + self.sizes[rank]
+        size = size + self.ranking.sizes[rank]
         self._layer(size)[0].append((ranks[:field] + (rank,) + ranks[field + 1:], target, value))
-
-    def built(self, rank):
-        """The tree with this rank."""
-        needed = {rank: True}
-        for at in reversed(range(rank + 1)):
-            if at in needed:
-                for field in self.told[at][1]:
-                    needed[field] = True
-        if len(needed) > MOST_ROWS:
-            raise TooManyRows(MOST_ROWS)
-        made = {}
-        for at in sorted(needed):
-            place, ranks = self.told[at]
-            fields = [made[field] for field in ranks]
-            made[at] = Tree(self.schema_used, self.schema_used.names[place], *fields)
-        return made[rank]

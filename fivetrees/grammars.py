@@ -1,7 +1,7 @@
 """Grammars: in which small steps a writer writes the trees of each pair (constructor, mode) that occurs."""
 
 from fivetrees.ways import ways_of
-from fivetrees.writing import rules_for
+from fivetrees.writing import rules_by_pair
 
 
 def _layout(pieces, many):
@@ -48,7 +48,7 @@ class Grammar:
     def __init__(self, writer):
         schema = writer.schema
         self._schema = schema
-        self._rules = writer.rules
+        self._rules = rules_by_pair(writer.rules)
         self._numbers = {}
         self._wanted = {}
         self._known = {}
@@ -78,7 +78,7 @@ class Grammar:
         name, mode = self.pairs[number]
         kinds = self._schema.constructor(name)[2]
         choices = {}
-        for tops, pieces, _ in ways_of(self._schema, kinds, rules_for(self._rules, mode, name), []):
+        for tops, pieces, _ in ways_of(self._schema, kinds, self._rules.get((mode, name), []), []):
             choices.setdefault(pieces, []).append(tops)
         for pieces, its_choices in choices.items():
             string, steps = _layout(pieces, len(kinds))

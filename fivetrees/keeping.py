@@ -1,12 +1,10 @@
 """The kept trees of two writers."""
 
-from fivetrees.errors import InvalidTree, TooLong
-from fivetrees.limits import MOST_WRITTEN
-from fivetrees.numbering import EMPTY, base_of, digits_of, five_numbers, told_parts
+from fivetrees.errors import InvalidTree
+from fivetrees.numbering import Numbering, five_numbers, told_rows
 from fivetrees.searching import kept_trees
 from fivetrees.states import start_states
 from fivetrees.writers import check_own_tree, check_writers
-from fivetrees.writing import lengths_of, parts_of
 
 
 def _is_word(value):
@@ -25,18 +23,6 @@ def _ordered(writer, other, states):
     return tuple(found)
 
 
-def _told_tree(writer, tree, mode, digits):
-    """The triple of the text of the tree in the mode, which may be None."""
-    if mode is None:
-        return EMPTY
-    parts = parts_of(writer.rules, tree.rows, mode)
-    top = (len(tree.rows) - 1, mode)
-    length = lengths_of(parts)[top]
-    if length > MOST_WRITTEN:
-        raise TooLong(length)
-    return told_parts(parts, digits)[top]
-
-
 class Keeping:
     """For each state of two writers the trees whose numbers are no sums of those of earlier trees."""
 
@@ -48,8 +34,7 @@ class Keeping:
             table[state] = table.get(state, ()) + (tree,)
         self._writer = writer
         self._other = other
-        self._digits = digits_of(writer, other)
-        self._base = base_of(self._digits)
+        self._numbering = Numbering(writer, other)
         self._pairs = pairs
         self._table = table
         self._states = _ordered(writer, other, table)
@@ -67,7 +52,7 @@ class Keeping:
     @property
     def base(self):
         """The base of the numbers of texts."""
-        return self._base
+        return self._numbering.base
 
     @property
     def states(self):
@@ -91,8 +76,8 @@ class Keeping:
         self._check_state(state)
         if state[0] != tree.name:
             raise InvalidTree(state)
-        one = _told_tree(self._writer, tree, state[1], self._digits)
-        other = _told_tree(self._other, tree, state[2], self._digits)
+        one = told_rows(self._numbering, self._writer, tree.rows, state[1])
+        other = told_rows(self._numbering, self._other, tree.rows, state[2])
         return five_numbers(one, other)
 
     def __len__(self):

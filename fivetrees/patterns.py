@@ -155,7 +155,7 @@ def _first(writer, pattern, keeping):
     for want, face in finder.found_marks:
         if want == finder.grammar.whole and leads_to_good(writer, pattern, face) == keeping:
             ranks.append(finder.found_marks[(want, face)][0])
-    return finder.built(min(ranks)) if ranks else None
+    return finder.ranking.built(min(ranks)) if ranks else None
 
 
 def first_keeping(writer, pattern):

@@ -59,7 +59,7 @@ def _reading(writer, text, number):
     while going and len(finder.found_marks.get(whole, [])) <= number:
         going = finder.advance()
     ranks = finder.found_marks.get(whole, [])
-    return finder.built(ranks[number]) if len(ranks) > number else None
+    return finder.ranking.built(ranks[number]) if len(ranks) > number else None
 
 
 def first_reading(writer, text):

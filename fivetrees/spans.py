@@ -52,3 +52,16 @@ class Span:
         self._places = self._places + [at]
         self._scale = self._lines[-1][at]
         return True
+
+    def multiples(self, row, start):
+        """For a sum of multiples of the lines: what these multiples make of the numbers from the start on.
+
+        The row need not have these numbers; each one that is found is a pair (over, under).
+        """
+        sign = 1 if self._scale > 0 else -1
+        found = []
+        for at in range(start, len(self._lines[0])):
+            over = sum([row[place] * line[at] for place, line in zip(self._places, self._lines)])
+            common = sign * gcd(over, self._scale)
+            found.append((over // common, self._scale // common))
+        return found

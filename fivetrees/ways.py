@@ -43,3 +43,12 @@ def ways_of(schema, kinds, pairs, others):
         tops = [group[0] for group in choice]
         found.append((choice, _pieces_for(ones, tops), _pieces_for(twos, tops)))
     return found
+
+
+def field_modes(pieces, many):
+    """The modes in which the pieces write so many fields, None for those that they do not write."""
+    modes = [None] * many
+    for piece in pieces:
+        if not isinstance(piece, str):
+            modes[piece[0]] = piece[1]
+    return modes

@@ -1,9 +1,12 @@
 """Writing trees by their rows, so that what is shared is looked at once."""
 
 
-def rules_for(rules, mode, name):
-    """The pairs (looks, pieces) of the rules of this mode and constructor, in their order."""
-    return [(rule[2], rule[3]) for rule in rules if rule[0] == mode and rule[1] == name]
+def rules_by_pair(rules):
+    """For each pair (mode, constructor) the pairs (looks, pieces) of its rules, in their order."""
+    found = {}
+    for mode, name, looks, pieces in rules:
+        found.setdefault((mode, name), []).append((looks, pieces))
+    return found
 
 
 def is_general(looks):
@@ -23,22 +26,23 @@ def first_fitting(pairs, tops):
     return None
 
 
-def _parts_of_row(rules, rows, number, mode):
+def _parts_of_row(table, rows, number, mode):
     """What is written for the row: strings, and for fields pairs (row, mode)."""
     name, numbers = rows[number]
     tops = [rows[at][0] for at in numbers]
-    pieces = first_fitting(rules_for(rules, mode, name), tops)
+    pieces = first_fitting(table[(mode, name)], tops)
     return tuple([piece if isinstance(piece, str) else (numbers[piece[0]], piece[1]) for piece in pieces])
 
 
 def parts_of(rules, rows, mode):
     """For each pair (row, mode) that is written, what is written for it; those of fields come first."""
+    table = rules_by_pair(rules)
     wanted = [[] for row in rows]
     wanted[-1].append(mode)
     found = {}
     for number in reversed(range(len(rows))):
         for its_mode in list(wanted[number]):
-            parts = _parts_of_row(rules, rows, number, its_mode)
+            parts = _parts_of_row(table, rows, number, its_mode)
             found[(number, its_mode)] = parts
             for part in parts:
                 if not isinstance(part, str) and part[1] not in wanted[part[0]]:

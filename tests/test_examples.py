@@ -1,6 +1,10 @@
 import doctest
 import unittest
 
+from fivetrees.errors import Refused
+from fivetrees.samples import moding_writer
+from fivetrees.workshop import Workshop
+
 TREES = """
 >>> from fivetrees.samples import sums_schema
 >>> from fivetrees.trees import Tree, compare, trees
@@ -98,6 +102,35 @@ SHEETS = """
 [(0, 3, '(1+1)'), '(1+1)*1', 'one; add 0 0', 1, '1*1*1', 0]
 """
 
+WORKSHOP = """
+>>> from fivetrees.samples import moding_writer
+>>> from fivetrees.workshop import Workshop
+>>> shop = Workshop(moding_writer())
+>>> shop.do(("put", 5, ("part", "mul", (("one",), None), ("1*", (1, "part")))))
+>>> [len(shop), len(shop.writer.rules), shop.first == moding_writer()]
+[1, 7, True]
+"""
+
+CERTIFICATES = """
+>>> from fivetrees.certificates import certify_alike, certify_reading
+>>> from fivetrees.checker import holds
+>>> from fivetrees.samples import full_writer, looking_writer, moding_writer
+>>> claim, paper = certify_alike(looking_writer(), moding_writer())
+>>> other, rows = certify_alike(looking_writer(), full_writer())
+>>> [claim[0], holds(claim, paper), other[0], rows, holds(other, rows), holds(claim, ((), ())), \
+certify_reading(full_writer(), "1")[1]]
+['alike', True, 'unlike', (('one', ()), ('add', (0, 0))), True, False, (('one', ()),)]
+"""
+
+CONSOLE = """
+>>> from fivetrees.console import Console
+>>> from fivetrees.samples import full_writer, looking_writer, moding_writer
+>>> console = Console(looking_writer(), moding_writer(), full_writer())
+>>> list(map(console.say, ["write 0 one; add 0 0; mul 1 0", "alike 0 1", "first 1 2", "length 2 one; add 0 0", \
+"constant 2", "read 2 (1*1)", "again 0 1+1+1", "read 1 +"]))
+['(1+1)*1', 'yes', 'one; add 0 0', '5', 'no', 'one; mul 0 0', 'one; add 0 0; add 1 0', 'none']
+"""
+
 
 class Examples(unittest.TestCase):
     def check(self, text):
@@ -133,6 +166,18 @@ class Examples(unittest.TestCase):
 
     def test_sheets(self):
         self.check(SHEETS)
+
+    def test_workshop(self):
+        self.check(WORKSHOP)
+        with self.assertRaises(Refused) as caught:
+            Workshop(moding_writer()).do(("exchange", "add", 0, 1))
+        self.assertEqual(caught.exception.deed, ("exchange", "add", 0, 1))
+
+    def test_certificates(self):
+        self.check(CERTIFICATES)
+
+    def test_console(self):
+        self.check(CONSOLE)
 
 
 if __name__ == "__main__":

@@ -13,7 +13,7 @@ METHODS = set(
 PYTHON_ERRORS = {"ValueError", "LookupError", "ArithmeticError", "TypeError"}
 SPECIAL = set(
     "__init__ __eq__ __repr__ __str__ __len__ __call__ __iter__ __contains__ __getitem__ __setitem__ __add__ __radd__"
-    " __invert__".split()
+    " __invert__ __enter__ __exit__".split()
 )
 TAKERS = ("sorted", "min", "max", "any", "all", "sum", "list", "tuple")
 # Parsed once, so that a node met again is the same object.
@@ -40,6 +40,21 @@ def stored_in(node):
     """The attributes that a class assigns."""
     attributes = [one for one in ast.walk(node) if isinstance(one, ast.Attribute)]
     return {one.attr for one in attributes if isinstance(one.ctx, ast.Store)}
+
+
+def class_values(node):
+    """The names that a class gives plain values."""
+    return {row.targets[0].id for row in node.body if isinstance(row, ast.Assign)}
+
+
+def off_class(node):
+    """The static and class methods of a class."""
+    return {one.name for one in methods(node) if one.decorator_list and not is_property(one)}
+
+
+def is_simple(node):
+    """Whether a value may be assigned where a block ends: a name, an attribute or a plain value."""
+    return isinstance(node, (ast.Name, ast.Attribute)) or (isinstance(node, ast.Constant) and node.value is not None)
 
 
 def generators():
@@ -72,13 +87,19 @@ class Classes(unittest.TestCase):
         self.assertEqual(plain & properties, set())
         self.assertEqual((stored | plain | properties) & {"keys", "items", "values", "mro"}, set())
         read = {node.attr for _, node in walk(ast.Attribute) if isinstance(node.ctx, ast.Load)}
-        self.assertLessEqual(read, stored | plain | properties | METHODS)
+        values = set().union(*[class_values(node) for node in classes()])
+        self.assertEqual(values & (stored | plain | properties), set())
+        self.assertLessEqual(read, stored | plain | properties | values | METHODS)
 
     def test_classes_are_called_or_asked_after(self):
-        names = {node.name for node in classes()}
+        names = {node.name: class_values(node) | off_class(node) for node in classes()}
+        values = set().union(*[class_values(node) for node in classes()])
+        called = [id(node.func) for _, node in walk(ast.Call)]
         for name, node in walk(ast.Attribute):
-            if isinstance(node.value, ast.Name):
-                self.assertNotIn(node.value.id, names, name)
+            if isinstance(node.value, ast.Name) and node.value.id in names:
+                self.assertIn(node.attr, names[node.value.id], name)
+                self.assertIsInstance(node.ctx, ast.Load, name)
+                self.assertEqual(id(node) in called, node.attr not in values, name)
 
     def test_properties_are_plain(self):
         for node in classes():
@@ -96,7 +117,7 @@ class Classes(unittest.TestCase):
 
 class Values(unittest.TestCase):
     def test_no_generator_expressions_and_few_sets(self):
-        self.assertEqual(walk((ast.GeneratorExp, ast.SetComp, ast.Set, ast.NamedExpr, ast.Match, ast.With)), [])
+        self.assertEqual(walk((ast.GeneratorExp, ast.SetComp, ast.Set, ast.NamedExpr, ast.Match)), [])
         inside = [id(node.args[0]) for _, node in walk(ast.Call) if is_call(node, "sorted", "len")]
         for name, node in walk(ast.Call):
             if is_call(node, "set", "frozenset"):
@@ -163,7 +184,9 @@ class Errors(unittest.TestCase):
     def test_what_is_raised(self):
         for name, node in walk(ast.Raise):
             self.assertTrue(node.exc is None or isinstance(node.exc, ast.Call), name)
-            if node.cause is not None:
+            if isinstance(node.cause, ast.Call):
+                self.assertIn(node.cause.func.id, {one.name for one in classes() if one.bases}, name)
+            elif node.cause is not None:
                 self.assertIsInstance(node.cause, ast.Constant, name)
 
     def test_what_is_caught(self):
@@ -172,7 +195,24 @@ class Errors(unittest.TestCase):
             caught = node.type.elts if isinstance(node.type, ast.Tuple) else [node.type]
             self.assertLessEqual({one.id for one in caught}, own, name)
         for name, node in walk(ast.Try):
-            self.assertEqual((node.finalbody, node.orelse), ([], []), name)
+            self.assertEqual(node.orelse, [], name)
+            self.check_ending(name, node.finalbody)
+
+    def check_ending(self, name, rows):
+        """What ends a block assigns only what is there already."""
+        for row in rows:
+            self.assertIsInstance(row, ast.Assign, (name, row.lineno))
+            self.assertIsInstance(row.targets[0], (ast.Name, ast.Attribute), (name, row.lineno))
+            self.assertTrue(is_simple(row.value), (name, row.lineno))
+
+    def test_blocks(self):
+        for name, node in walk(ast.With):
+            for one in node.items:
+                self.assertIsInstance(one.context_expr, ast.Call, name)
+        for name, node in walk(ast.FunctionDef):
+            if node.name == "__exit__":
+                self.check_ending(name, node.body)
+                self.assertEqual([one.arg for one in node.args.args][1:], ["kind", "value", "trace"], name)
 
     def test_bases(self):
         own = {node.name for node in classes() if node.bases}
@@ -224,8 +264,26 @@ class Names(unittest.TestCase):
                 self.assertIsInstance(row, (ast.Expr, ast.ImportFrom, ast.ClassDef, ast.FunctionDef, ast.Assign), name)
                 if isinstance(row, ast.Expr):
                     self.assertIsInstance(row.value, ast.Constant, name)
-                if isinstance(row, ast.Assign):
+                if isinstance(row, ast.Assign) and not self.is_table(tree, row):
                     ast.literal_eval(row.value)
+
+    def is_table(self, tree, row):
+        """Whether the row names a dict of functions that are defined above it."""
+        above = {one.name for one in tree.body if isinstance(one, ast.FunctionDef) and one.lineno < row.lineno}
+        if not isinstance(row.value, ast.Dict):
+            return False
+        return all(isinstance(one, ast.Name) and one.id in above for one in row.value.values)
+
+    def test_what_stands_in_a_table_is_named_and_called(self):
+        found = 0
+        for name, tree in PARSED.items():
+            tables = {row.targets[0].id for row in tree.body if isinstance(row, ast.Assign) and self.is_table(tree, row)}
+            named = [id(row.value) for row in ast.walk(tree) if isinstance(row, ast.Assign)]
+            for node in ast.walk(tree):
+                if isinstance(node, ast.Subscript) and isinstance(node.value, ast.Name) and node.value.id in tables:
+                    found += 1
+                    self.assertIn(id(node), named, (name, node.lineno))
+        self.assertGreater(found, 0)
 
     def test_imports_go_no_way_round(self):
         below = {}
