@@ -28,7 +28,7 @@ def pattern_of(value):
 
 
 def is_tuple_of(value, many):
-    """Whether any value is a tuple of so many elements."""
+    """Whether any value is a tuple of so many parts."""
     return isinstance(value, tuple) and len(value) == many
 
 

@@ -169,7 +169,7 @@ class Search:
             for way in self._users[want]:
                 self._count(way)
         for want in self._askers[state]:
-            waiting = self._waiting[want]
+            waiting = list(self._waiting[want])
             self._waiting[want] = []
             for way, picks in waiting:
                 self._offer(way, picks)

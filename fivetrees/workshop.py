@@ -5,7 +5,7 @@ from fivetrees.errors import Busy, InvalidDeed, NothingToUndo, Refused, TooManyD
 from fivetrees.modes import lean
 from fivetrees.writers import check_writer
 
-# How many elements a deed with this word has.
+# How many parts a deed with this word has.
 LENGTHS = {"put": 3, "drop": 2, "using": 3, "exchange": 4, "lean": 1}
 
 

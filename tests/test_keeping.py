@@ -1,5 +1,7 @@
 import random
 import unittest
+import unittest.mock
+from fractions import Fraction
 
 from fivetrees.errors import (
     InvalidTree, NotATree, NotAWriter, OtherSchema, TooLong, TooManyJoins,
@@ -379,8 +381,78 @@ class Limits(unittest.TestCase):
         self.assertEqual(len(writer.written(tree, "m")), 5000)
         self.assertRaises(TooLong, writer, tree)
 
+    def test_all_pairs_of_modes_without_strings(self):
+        # Each of the nine pairs of modes has 216 choices of tops and five constructors without fields: 1989 joins.
+        one, other = quiet_writers(5, 1)
+        keeping = Keeping(one, other)
+        self.assertEqual((len(keeping.states), len(keeping)), (54, 54))
+        self.assertEqual([str(tree) for tree in keeping.kept(("t0", "y", "z"))], ["l0; t0 0 0 0"])
+        for leaves, threes in ((4, 2), (1, 5), (3, 3)):
+            with self.assertRaises(TooManyJoins):
+                Keeping(*quiet_writers(leaves, threes))
+
+    def test_a_kept_tree_with_many_rows(self):
+        # Trees of more than 200 rows are hardly ever kept, so the limit is set lower here.
+        for writer, other in ((looking_writer(), moding_writer()), quiet_writers(5, 1), two_thousand_empty()):
+            keeping = Keeping(writer, other)
+            most = max(len(tree) for state in keeping.states for tree in keeping.kept(state))
+            self.assertGreater(most, 1)
+            with unittest.mock.patch("fivetrees.searching.MOST_ROWS", most):
+                self.assertEqual(Keeping(writer, other).states, keeping.states)
+            with unittest.mock.patch("fivetrees.searching.MOST_ROWS", most - 1):
+                with self.assertRaises(TooManyJoins) as caught:
+                    Keeping(writer, other)
+                self.assertEqual(caught.exception.limit, 2000)
+
+
+def plain_span(rows):
+    """The span of these rows."""
+    span = Span()
+    for row in rows:
+        span.widen(row)
+    return span
+
+
+def quiet_writers(leaves, threes):
+    """Two writers of three modes that write all three fields of so many constructors, and nothing else."""
+    makes = [f"make l{k} a" for k in range(leaves)] + [f"make t{k} a a a a" for k in range(threes)]
+    schema = Schema.read("\n".join(["kind a", *makes]))
+    found = []
+    for turns in ((0, 1, 2), (0, 0, 1)):
+        rules = []
+        for at, mode in enumerate("xyz"):
+            pieces = tuple((field, "xyz"[(at + turn) % 3]) for field, turn in enumerate(turns))
+            rules += [(mode, f"l{k}", (), ()) for k in range(leaves)]
+            rules += [(mode, f"t{k}", (None,) * 3, pieces) for k in range(threes)]
+        found.append(Writer(schema, tuple(rules), "x"))
+    return found
+
 
 class Spans(unittest.TestCase):
+    def test_multiples(self):
+        source = random.Random(6)
+        for _ in range(200):
+            span, known = Span(), []
+            for _ in range(4):
+                row = [source.choice([0, 1, -1, 2, 7, -10 ** 12]) for _ in range(5)]
+                if Span.widen(plain_span(known), row):
+                    span.widen((*row, *[int(k == len(known)) for k in range(5)]))
+                    known.append(row)
+            if known:
+                factors = [source.choice([0, 1, -3, 10 ** 9]) for _ in known]
+                made = [sum(factor * row[k] for factor, row in zip(factors, known)) for k in range(5)]
+                numbers = span.multiples(made, 5)
+                self.assertEqual([Fraction(*number) for number in numbers[:len(known)]], factors)
+                self.assertTrue(all(under > 0 for _, under in numbers))
+                halves = span.multiples(known[0], 5)
+                self.assertEqual(halves[:len(known)], [(int(k == 0), 1) for k in range(len(known))])
+
+    def test_multiples_in_lowest_terms(self):
+        span = Span()
+        span.widen((-4, 0, 0, 0, 0, 1, 0))
+        span.widen((0, 6, 0, 0, 0, 0, 1))
+        self.assertEqual(span.multiples((2, 4, 0, 0, 0), 5), [(-1, 2), (2, 3)])
+
     def test_rows_by_chance(self):
         source = random.Random(4)
         for _ in range(300):
